@@ -1,0 +1,1 @@
+"""Sets of rows, sixty-four at a time: the calls stand in rowsets.columns."""
