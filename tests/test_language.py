@@ -1,4 +1,4 @@
-"""The package's files against those rules of LANGUAGE.md that a file's own text shows."""
+"""The package's files against a part of the rules of LANGUAGE.md, not all of them."""
 
 import ast
 import builtins
