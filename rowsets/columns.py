@@ -5,7 +5,12 @@ A set of rows is a list of words of 64 bits: the lowest bit of the first word is
 
 MOST_ROWS = 4096
 WORD_ROWS = 64
+FULL_WORD = 18446744073709551615
 
+ROWS_REFUSED = -1
+NUMBER_REFUSED = -2
+
+# How a number stands to a value.
 SAME = 0
 NOT_SAME = 1
 LESS = 2
@@ -13,8 +18,18 @@ LESS_OR_SAME = 3
 GREATER = 4
 GREATER_OR_SAME = 5
 
-ROWS_REFUSED = -1
-NUMBER_REFUSED = -2
+# How two sets become one.
+BOTH = 0
+EITHER = 1
+ONE_ALONE = 2
+BOTH_OR_NONE = 3
+WITHOUT = 4
+OR_NOT = 5
+NOT = 6
+
+# Single floating numbers by their bits.
+SIGN_BIT = 2147483648
+INFINITE = 2139095040
 
 
 def where8(n, how, value, col):
@@ -32,15 +47,49 @@ def where32(n, how, value, col):
     return where(n, how, value, col)
 
 
+def where64(n, how, value, col):
+    """The rows whose number, of 64 bits with a sign, stands to value as how says."""
+    return where(n, how, value, col)
+
+
+def wherebits(n, how, value, col):
+    """The rows whose single floating number, told by its bits, stands to value's as how says."""
+    if rows_refused(n):
+        return [ROWS_REFUSED]
+    if how_refused(how):
+        return [NUMBER_REFUSED]
+    return told(n, set_of(n, [row for row in range(n) if single_stands(col[row], how, value)]))
+
+
+def join(n, how, a, b):
+    """The rows of a and b put together as how says; where how is 6, b isn't looked at."""
+    if rows_refused(n):
+        return [ROWS_REFUSED]
+    if how < BOTH or how > NOT:
+        return [NUMBER_REFUSED]
+    return told(n, joined(n, how, a, b))
+
+
+def rows_refused(n):
+    return n < 0 or n > MOST_ROWS
+
+
+def how_refused(how):
+    return how < SAME or how > GREATER_OR_SAME
+
+
 # One answer serves every width: value is taken as it is, never cut to the
 # column's width, so a value that no number of the column could be needs no care.
 def where(n, how, value, col):
-    if n < 0 or n > MOST_ROWS:
+    if rows_refused(n):
         return [ROWS_REFUSED]
-    if how < SAME or how > GREATER_OR_SAME:
+    if how_refused(how):
         return [NUMBER_REFUSED]
-    rows = [row for row in range(n) if stands(col[row], how, value)]
-    return [len(rows)] + set_of(n, rows)
+    return told(n, set_where(n, how, value, col))
+
+
+def set_where(n, how, value, col):
+    return set_of(n, [row for row in range(n) if stands(col[row], how, value)])
 
 
 def stands(number, how, value):
@@ -57,9 +106,69 @@ def stands(number, how, value):
     return number >= value
 
 
+def single_stands(number, how, value):
+    if not_a_number(number) or not_a_number(value):
+        return how == NOT_SAME
+    return stands(single_rank(number), how, single_rank(value))
+
+
+# Beyond the infinite ones lie the bits that are no number, whatever their sign.
+def not_a_number(bits):
+    return bits % SIGN_BIT > INFINITE
+
+
+# The bits below the sign grow as the number's size does, so with the sign put
+# to them they are in the numbers' order, and 0 and -0 fall together.
+def single_rank(bits):
+    if bits < SIGN_BIT:
+        return bits
+    return SIGN_BIT - bits
+
+
+def joined(n, how, a, b):
+    if how == NOT:
+        return cut(n, [FULL_WORD ^ word for word in a])
+    return cut(n, [joined_word(how, x, y) for x, y in zip(a, b)])
+
+
+# What is not in a word is told by ^ FULL_WORD: ~ would give a number below 0.
+def joined_word(how, x, y):
+    if how == BOTH:
+        return x & y
+    if how == EITHER:
+        return x | y
+    if how == ONE_ALONE:
+        return x ^ y
+    if how == BOTH_OR_NONE:
+        return x ^ y ^ FULL_WORD
+    if how == WITHOUT:
+        return x & (y ^ FULL_WORD)
+    return x | (y ^ FULL_WORD)
+
+
+# The bits from n on may be anything in a set that is handed over.
+def cut(n, words):
+    rest = n % WORD_ROWS
+    if rest == 0:
+        return list(words)
+    return words[:-1] + [words[-1] % (1 << rest)]
+
+
 def set_of(n, rows):
     words = [0] * ((n + WORD_ROWS - 1) // WORD_ROWS)
     for row in rows:
         place = row // WORD_ROWS
         words[place] = words[place] | (1 << (row % WORD_ROWS))
     return words
+
+
+def rows_of(n, words):
+    return [row for row in range(n) if has_row(words, row)]
+
+
+def has_row(words, row):
+    return (words[row // WORD_ROWS] >> (row % WORD_ROWS)) % 2 == 1
+
+
+def told(n, words):
+    return [len(rows_of(n, words))] + words

@@ -1,4 +1,4 @@
-"""Point 1 for where8, where16 and where32, and what the document says ahead of it."""
+"""Point 1: where8, where16, where32 and where64, and what the document says ahead of it."""
 
 import contextlib
 import inspect
@@ -7,49 +7,26 @@ import operator
 import unittest
 
 from rowsets import columns
+from support import EDGES_OF_N, FULL, HIGH, LOW, REFUSED_N, Asking, told
 
-LOW = -2147483648
-HIGH = 2147483647
 HOWS = (operator.eq, operator.ne, operator.lt, operator.le, operator.gt, operator.ge)
-EDGES_OF_N = (0, 1, 63, 64, 65, 127, 128, 4095, 4096)
-REFUSED_N = (-1, 4097, LOW, HIGH)
 REFUSED_HOW = (-1, 6, LOW, HIGH)
-FULL = 2 ** 64 - 1
 
 
 def expected(how, value, col):
-    """The answer by way of one long number, cut into words at the end."""
-    bits = "".join("1" if HOWS[how](number, value) else "0" for number in reversed(col))
-    whole = int(bits or "0", 2)
-    words = [whole >> (64 * k) & FULL for k in range(-(-len(col) // 64))]
-    return [bits.count("1")] + words
-
-
-class ReadOnly(list):
-    """A list that fails at any try to change it, so that not even a passing change is missed."""
-
-
-def refuse(self, *args, **kwargs):
-    raise AssertionError("the list that was handed in was changed")
-
-
-for change in ("__setitem__", "__delitem__", "__iadd__", "__imul__", "append", "extend", "insert",
-               "pop", "remove", "clear", "reverse", "sort"):
-    setattr(ReadOnly, change, refuse)
+    return told(len(col), {row for row, number in enumerate(col) if HOWS[how](number, value)})
 
 
 class WhereTests:
-    """What holds for each of the three calls; name, low and high come from the classes below."""
+    """What holds for each of the four calls; name, low and high come from the classes below."""
 
-    def ask(self, n, how, value, col):
-        answer = getattr(columns, self.name)(n, how, value, col)
-        self.assertIs(type(answer), list)
-        for number in answer:
-            self.assertIs(type(number), int)
-        return answer
+    value_low, value_high = LOW, HIGH
 
-    def check(self, how, value, col):
-        self.assertEqual(self.ask(len(col), how, value, col), expected(how, value, col),
+    def where(self, n, how, value, col):
+        return self.ask(self.name, n, how, value, col)
+
+    def compare(self, how, value, col):
+        self.assertEqual(self.where(len(col), how, value, col), expected(how, value, col),
                          (self.name, len(col), how, value))
 
     def spread(self, n):
@@ -65,43 +42,44 @@ class WhereTests:
         near = [self.low - 1, self.low, self.low + 1, self.high - 1, self.high, self.high + 1]
         # What a value would become if it were cut to the column's width.
         wrapped = [self.high - self.low + 1, self.low - self.high - 1, 2 * (self.high + 1) + 5]
-        return [v for v in near + wrapped + [0, LOW, HIGH] if LOW <= v <= HIGH]
+        return [v for v in near + wrapped + [0, LOW, HIGH, self.value_low, self.value_high]
+                if self.value_low <= v <= self.value_high]
 
     def test_written_answers_for_each_how(self):
         col = [3, -4, 3, 0, 7, -128, 127, 3]
-        self.assertEqual(self.ask(8, 0, 3, col), [3, 0b10000101])
-        self.assertEqual(self.ask(8, 1, 3, col), [5, 0b01111010])
-        self.assertEqual(self.ask(8, 2, 3, col), [3, 0b00101010])
-        self.assertEqual(self.ask(8, 3, 3, col), [6, 0b10101111])
-        self.assertEqual(self.ask(8, 4, 3, col), [2, 0b01010000])
-        self.assertEqual(self.ask(8, 5, 3, col), [5, 0b11010101])
+        self.assertEqual(self.where(8, 0, 3, col), [3, 0b10000101])
+        self.assertEqual(self.where(8, 1, 3, col), [5, 0b01111010])
+        self.assertEqual(self.where(8, 2, 3, col), [3, 0b00101010])
+        self.assertEqual(self.where(8, 3, 3, col), [6, 0b10101111])
+        self.assertEqual(self.where(8, 4, 3, col), [2, 0b01010000])
+        self.assertEqual(self.where(8, 5, 3, col), [5, 0b11010101])
 
     def test_written_answers_over_several_words(self):
         col = [0] * 130
         for row in (0, 63, 64, 127, 128, 129):
             col[row] = 9
-        self.assertEqual(self.ask(130, 0, 9, col), [6, 2 ** 63 + 1, 2 ** 63 + 1, 3])
-        self.assertEqual(self.ask(130, 4, 0, col), [6, 2 ** 63 + 1, 2 ** 63 + 1, 3])
-        self.assertEqual(self.ask(130, 1, 9, col), [124, 2 ** 63 - 2, 2 ** 63 - 2, 0])
+        self.assertEqual(self.where(130, 0, 9, col), [6, 2 ** 63 + 1, 2 ** 63 + 1, 3])
+        self.assertEqual(self.where(130, 4, 0, col), [6, 2 ** 63 + 1, 2 ** 63 + 1, 3])
+        self.assertEqual(self.where(130, 1, 9, col), [124, 2 ** 63 - 2, 2 ** 63 - 2, 0])
 
     def test_the_sign_counts(self):
         col = [-1, 0, 1, self.low, self.high]
-        self.assertEqual(self.ask(5, 2, 0, col), [2, 0b01001])
-        self.assertEqual(self.ask(5, 4, 0, col), [2, 0b10100])
-        self.assertEqual(self.ask(5, 3, -1, col), [2, 0b01001])
-        self.assertEqual(self.ask(5, 5, -1, col), [4, 0b10111])
+        self.assertEqual(self.where(5, 2, 0, col), [2, 0b01001])
+        self.assertEqual(self.where(5, 4, 0, col), [2, 0b10100])
+        self.assertEqual(self.where(5, 3, -1, col), [2, 0b01001])
+        self.assertEqual(self.where(5, 5, -1, col), [4, 0b10111])
 
     def test_ordinary_columns(self):
         for n in (5, 40, 100, 200, 1000):
             for value in (0, 1, -7, 100, self.low, self.high):
                 for how in range(6):
-                    self.check(how, value, self.spread(n))
+                    self.compare(how, value, self.spread(n))
 
     def test_n_at_its_edges(self):
         for n in EDGES_OF_N:
             for value in (0, 5, self.low, self.high):
                 for how in range(6):
-                    self.check(how, value, self.spread(n))
+                    self.compare(how, value, self.spread(n))
 
     def test_all_rows_and_no_row_at_the_edges_of_n(self):
         for n in EDGES_OF_N:
@@ -110,7 +88,7 @@ class WhereTests:
             for how in range(6):
                 holds = HOWS[how](5, 5)
                 wanted = [n] + every if holds else [0] + [0] * len(every)
-                self.assertEqual(self.ask(n, how, 5, [5] * n), wanted, (n, how))
+                self.assertEqual(self.where(n, how, 5, [5] * n), wanted, (n, how))
 
     def test_each_row_alone_has_its_own_bit(self):
         for row in range(200):
@@ -118,34 +96,34 @@ class WhereTests:
             col[row] = 1
             words = [0, 0, 0, 0]
             words[row // 64] = 2 ** (row % 64)
-            self.assertEqual(self.ask(200, 0, 1, col), [1] + words, row)
+            self.assertEqual(self.where(200, 0, 1, col), [1] + words, row)
 
     def test_no_rows(self):
         for how in range(6):
-            self.assertEqual(self.ask(0, how, 0, []), [0])
+            self.assertEqual(self.where(0, how, 0, []), [0])
 
     def test_n_refused(self):
         for n in REFUSED_N:
             for how in range(6):
                 for value in (0, LOW, HIGH):
-                    self.assertEqual(self.ask(n, how, value, []), [-1], (n, how, value))
+                    self.assertEqual(self.where(n, how, value, []), [-1], (n, how, value))
 
     def test_how_refused(self):
         for how in REFUSED_HOW:
             for n in EDGES_OF_N:
                 for value in (0, LOW, HIGH):
-                    self.assertEqual(self.ask(n, how, value, [0] * n), [-2], (n, how, value))
+                    self.assertEqual(self.where(n, how, value, [0] * n), [-2], (n, how, value))
 
     def test_n_is_refused_ahead_of_how(self):
         for n in REFUSED_N:
             for how in REFUSED_HOW:
-                self.assertEqual(self.ask(n, how, 0, []), [-1], (n, how))
+                self.assertEqual(self.where(n, how, 0, []), [-1], (n, how))
 
     def test_value_at_and_beyond_the_edges(self):
         for value in self.values_at_edges():
             for how in range(6):
                 for n in (1, 64, 70):
-                    self.check(how, value, self.spread(n))
+                    self.compare(how, value, self.spread(n))
 
     def test_value_that_no_number_could_be(self):
         col = [self.low, -1, 0, 1, self.high]
@@ -155,33 +133,14 @@ class WhereTests:
             above = value > self.high
             for how, holds in enumerate((False, True, above, above, not above, not above)):
                 wanted = [5, 31] if holds else [0, 0]
-                self.assertEqual(self.ask(5, how, value, col), wanted, (how, value))
-
-    def test_what_is_handed_in_stays(self):
-        for n in (0, 1, 64, 65, 4096):
-            for how in (-1, 0, 1, 2, 3, 4, 5, 6):
-                col = self.spread(n)
-                self.ask(n, how, 1, col)
-                self.assertEqual(col, self.spread(n))
-                self.ask(n, how, 1, ReadOnly(self.spread(n)))
-
-    def test_nothing_is_kept(self):
-        for n in (0, 1, 64, 65, 4096):
-            for how in (-1, 0, 1, 2, 3, 4, 5, 6):
-                first = self.ask(n, how, 1, self.spread(n))
-                kept = list(first)
-                first.append(77)
-                first[0] = 99
-                self.ask(3, 5, -2, [1, -2, -3])
-                self.assertEqual(self.ask(n, how, 1, self.spread(n)), kept, (n, how))
-        self.assertEqual(self.ask(4097, 0, 0, []) + self.ask(4097, 0, 0, []), [-1, -1])
+                self.assertEqual(self.where(5, how, value, col), wanted, (how, value))
 
     def test_nothing_is_printed(self):
         out, err = io.StringIO(), io.StringIO()
         with contextlib.redirect_stdout(out), contextlib.redirect_stderr(err):
-            self.ask(70, 2, 1, self.spread(70))
-            self.ask(-1, 2, 1, [])
-            self.ask(1, 6, 1, [1])
+            self.where(70, 2, 1, self.spread(70))
+            self.where(-1, 2, 1, [])
+            self.where(1, 6, 1, [1])
         self.assertEqual((out.getvalue(), err.getvalue()), ("", ""))
 
     def test_names_of_the_arguments(self):
@@ -190,33 +149,67 @@ class WhereTests:
         self.assertEqual(call(n=2, how=4, value=1, col=[1, 2]), [1, 2])
 
 
-class Where8(WhereTests, unittest.TestCase):
+class Where8(WhereTests, Asking):
     name, low, high = "where8", -128, 127
 
     def test_the_edges_by_number(self):
         for value in (-128, 127, -129, 128, LOW, HIGH, 255, 256, -256):
             for how in range(6):
-                self.check(how, value, list(range(-128, 128)))
+                self.compare(how, value, list(range(-128, 128)))
 
 
-class Where16(WhereTests, unittest.TestCase):
+class Where16(WhereTests, Asking):
     name, low, high = "where16", -32768, 32767
 
     def test_the_edges_by_number(self):
         col = [-32768, -32767, -129, -128, -1, 0, 1, 127, 128, 255, 256, 32766, 32767]
         for value in (-32768, 32767, -32769, 32768, LOW, HIGH, 65535, 65536, -65536):
             for how in range(6):
-                self.check(how, value, col)
+                self.compare(how, value, col)
 
 
-class Where32(WhereTests, unittest.TestCase):
+class Where32(WhereTests, Asking):
     name, low, high = "where32", LOW, HIGH
 
     def test_the_edges_by_number(self):
         col = [LOW, LOW + 1, -65536, -32769, -1, 0, 1, 32768, 65536, HIGH - 1, HIGH]
         for value in (LOW, HIGH, LOW + 1, HIGH - 1, 0, -1):
             for how in range(6):
-                self.check(how, value, col)
+                self.compare(how, value, col)
+
+
+class Where64(WhereTests, Asking):
+    name, low, high = "where64", -2 ** 63, 2 ** 63 - 1
+    value_low, value_high = low, high
+
+    def test_the_edges_by_number(self):
+        col = [self.low, self.low + 1, LOW - 1, LOW, -1, 0, 1, HIGH, HIGH + 1, self.high - 1, self.high]
+        for value in col + [2 ** 32, -2 ** 32]:
+            for how in range(6):
+                self.compare(how, value, col)
+
+    def test_written_answers_at_the_edges(self):
+        col = [-9223372036854775808, -9223372036854775807, 9223372036854775806, 9223372036854775807]
+        self.assertEqual(self.where(4, 0, -9223372036854775808, col), [1, 0b0001])
+        self.assertEqual(self.where(4, 4, -9223372036854775808, col), [3, 0b1110])
+        self.assertEqual(self.where(4, 0, 9223372036854775807, col), [1, 0b1000])
+        self.assertEqual(self.where(4, 2, 9223372036854775807, col), [3, 0b0111])
+
+    def test_numbers_that_differ_by_1_beyond_53_bits(self):
+        for middle in (2 ** 53 + 1, 2 ** 54 + 1, 2 ** 60, 2 ** 63 - 3, 9007199254740993):
+            for value in (middle, -middle):
+                col = [value - 1, value, value + 1]
+                self.assertEqual(self.where(3, 0, value, col), [1, 0b010])
+                self.assertEqual(self.where(3, 1, value, col), [2, 0b101])
+                self.assertEqual(self.where(3, 2, value, col), [1, 0b001])
+                self.assertEqual(self.where(3, 3, value, col), [2, 0b011])
+                self.assertEqual(self.where(3, 4, value, col), [1, 0b100])
+                self.assertEqual(self.where(3, 5, value, col), [2, 0b110])
+
+    def test_numbers_that_are_the_same_but_for_their_upper_half(self):
+        col = [5, 5 + 2 ** 32, 5 - 2 ** 32, 5 + 2 ** 62]
+        self.assertEqual(self.where(4, 0, 5, col), [1, 0b0001])
+        self.assertEqual(self.where(4, 0, 5 + 2 ** 32, col), [1, 0b0010])
 
 
 if __name__ == "__main__":
