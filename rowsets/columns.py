@@ -70,6 +70,29 @@ def join(n, how, a, b):
     return told(n, joined(n, how, a, b))
 
 
+def shift(n, by, a):
+    """The rows by places further up than those of a (below 0: down)."""
+    if rows_refused(n):
+        return [ROWS_REFUSED]
+    return told(n, shifted(n, by, a))
+
+
+def fill(n, a, on):
+    """The rows of on that are in a, and those that follow such a one without a gap in on."""
+    if rows_refused(n):
+        return [ROWS_REFUSED]
+    return told(n, filled(n, a, on))
+
+
+def ends(n, a):
+    """How many runs a has, then the rows that begin them, then the rows that end them."""
+    if rows_refused(n):
+        return [ROWS_REFUSED]
+    first = joined(n, WITHOUT, a, shifted(n, 1, a))
+    last = joined(n, WITHOUT, a, shifted(n, -1, a))
+    return told(n, first) + last
+
+
 def rows_refused(n):
     return n < 0 or n > MOST_ROWS
 
@@ -144,6 +167,41 @@ def joined_word(how, x, y):
     if how == WITHOUT:
         return x & (y ^ FULL_WORD)
     return x | (y ^ FULL_WORD)
+
+
+# // and % round down, so by is so many words, up or down, and then 0 to 63 rows
+# up: one way of moving serves both directions.
+def shifted(n, by, words):
+    whole = by // WORD_ROWS
+    rest = by % WORD_ROWS
+    given = cut(n, words)
+    moved = []
+    for place in range(len(given)):
+        high = word_at(given, place - whole) << rest
+        low = word_at(given, place - whole - 1) >> (WORD_ROWS - rest)
+        moved.append((high | low) & FULL_WORD)
+    return cut(n, moved)
+
+
+def word_at(words, place):
+    if place < 0 or place >= len(words):
+        return 0
+    return words[place]
+
+
+# In the sum of begun and on a carry starts at a row of begun, is handed up by
+# each further row of on, and ends where on does: it comes to just the rows that
+# lie behind. A sum differs from ^ by the carries that came in.
+def filled(n, a, on):
+    carry = 0
+    words = []
+    for x, y in zip(a, on):
+        begun = x & y
+        total = begun + y + carry
+        behind = total ^ begun ^ y
+        words.append((begun | behind) & y)
+        carry = total >> WORD_ROWS
+    return cut(n, words)
 
 
 # The bits from n on may be anything in a set that is handed over.
