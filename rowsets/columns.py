@@ -6,6 +6,7 @@ A set of rows is a list of words of 64 bits: the lowest bit of the first word is
 MOST_ROWS = 4096
 WORD_ROWS = 64
 FULL_WORD = 18446744073709551615
+FULL_BYTE = 255
 
 ROWS_REFUSED = -1
 NUMBER_REFUSED = -2
@@ -91,6 +92,39 @@ def ends(n, a):
     first = joined(n, WITHOUT, a, shifted(n, 1, a))
     last = joined(n, WITHOUT, a, shifted(n, -1, a))
     return told(n, first) + last
+
+
+def test(n, a, b):
+    """1 if no row is in both, plus 2 if all of b's are in a, plus 4 if a has all rows, plus 8 if none."""
+    if rows_refused(n):
+        return [ROWS_REFUSED]
+    answer = 0
+    if is_empty(joined(n, BOTH, a, b)):
+        answer += 1
+    if is_empty(joined(n, WITHOUT, b, a)):
+        answer += 2
+    if is_empty(joined(n, NOT, a, [])):
+        answer += 4
+    if is_empty(cut(n, a)):
+        answer += 8
+    return [answer]
+
+
+def nth(n, k, a):
+    """Which row is the k-th of a; the first is 0."""
+    if rows_refused(n):
+        return [ROWS_REFUSED]
+    rows = rows_of(n, a)
+    if k < 0 or k >= len(rows):
+        return [NUMBER_REFUSED]
+    return [rows[k]]
+
+
+def bytes_of(n, a):
+    """How many rows a has, then a byte for each row: 255 for those of a, 0 for the others."""
+    if rows_refused(n):
+        return [ROWS_REFUSED]
+    return [len(rows_of(n, a))] + [FULL_BYTE if has_row(a, row) else 0 for row in range(n)]
 
 
 def rows_refused(n):
@@ -226,6 +260,10 @@ def rows_of(n, words):
 
 def has_row(words, row):
     return (words[row // WORD_ROWS] >> (row % WORD_ROWS)) % 2 == 1
+
+
+def is_empty(words):
+    return not any(words)
 
 
 def told(n, words):

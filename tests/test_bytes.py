@@ -1,0 +1,42 @@
+"""Point 9: bytes_of, and what the document says ahead of it of sets that are handed over."""
+
+import inspect
+import unittest
+
+from rowsets import columns
+from support import EDGES_OF_N, FULL, REFUSED_N, UNEVEN_N, Asking, dirty, sets_over, words_of
+
+
+class BytesOf(Asking):
+    def compare(self, n, a, words):
+        self.check([len(a)] + [255 if row in a else 0 for row in range(n)], "bytes_of", n, words)
+
+    def test_written_answers(self):
+        self.check([2, 255, 0, 255, 0], "bytes_of", 4, [0b0101])
+        self.check([0, 0, 0, 0], "bytes_of", 3, [0])
+        self.check([3, 255, 255, 255], "bytes_of", 3, [0b111])
+        self.check([0], "bytes_of", 0, [])
+        self.check([66] + [255] * 64 + [0, 255, 255], "bytes_of", 67, [FULL, 6])
+
+    def test_n_at_its_edges(self):
+        for n in EDGES_OF_N + (5, 100, 200):
+            for a in sets_over(n):
+                self.compare(n, a, words_of(n, a))
+
+    def test_the_bits_from_n_on_may_be_anything(self):
+        for n in UNEVEN_N:
+            for a in sets_over(n):
+                for one in dirty(n, words_of(n, a)):
+                    self.compare(n, a, one)
+
+    def test_n_refused(self):
+        for n in REFUSED_N:
+            self.check([-1], "bytes_of", n, [])
+
+    def test_names_of_the_arguments(self):
+        self.assertEqual(list(inspect.signature(columns.bytes_of).parameters), ["n", "a"])
+        self.assertEqual(columns.bytes_of(n=2, a=[2]), [1, 0, 255])
+
+
+if __name__ == "__main__":
+    unittest.main()
