@@ -7,6 +7,7 @@ MOST_ROWS = 4096
 WORD_ROWS = 64
 FULL_WORD = 18446744073709551615
 FULL_BYTE = 255
+HIGHEST_BIT = 128
 
 ROWS_REFUSED = -1
 NUMBER_REFUSED = -2
@@ -125,6 +126,32 @@ def bytes_of(n, a):
     if rows_refused(n):
         return [ROWS_REFUSED]
     return [len(rows_of(n, a))] + [FULL_BYTE if has_row(a, row) else 0 for row in range(n)]
+
+
+def ofbytes(n, given):
+    """The rows whose byte has its highest bit."""
+    if rows_refused(n):
+        return [ROWS_REFUSED]
+    return told(n, set_of(n, [row for row in range(n) if given[row] >= HIGHEST_BIT]))
+
+
+def pick(n, col, a):
+    """How many rows a has, then col's numbers of these rows, in order."""
+    if rows_refused(n):
+        return [ROWS_REFUSED]
+    rows = rows_of(n, a)
+    return [len(rows)] + [col[row] for row in rows]
+
+
+def put(n, col, a, given):
+    """How many rows a has, then col, where a's rows have given's numbers from its first on."""
+    if rows_refused(n):
+        return [ROWS_REFUSED]
+    rows = rows_of(n, a)
+    result = list(col)
+    for place, row in enumerate(rows):
+        result[row] = given[place]
+    return [len(rows)] + result
 
 
 def rows_refused(n):

@@ -61,6 +61,12 @@ def sets_over(n):
     return found
 
 
+def numbers_over(n):
+    """n numbers of 32 bits, each of them another, with both edges at both ends."""
+    edges = {0: LOW, 1: HIGH, n - 2: LOW + 1, n - 1: HIGH - 1}
+    return [edges.get(row, row * 1000003 - 2000000000) for row in range(n)]
+
+
 class Asking(unittest.TestCase):
     """Every question is asked in a way that shows a change of what was handed in, or a thing kept."""
 

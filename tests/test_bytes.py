@@ -1,10 +1,10 @@
-"""Point 9: bytes_of, and what the document says ahead of it of sets that are handed over."""
+"""Point 9: bytes_of and ofbytes, and what the document says ahead of it of sets that are handed over."""
 
 import inspect
 import unittest
 
 from rowsets import columns
-from support import EDGES_OF_N, FULL, REFUSED_N, UNEVEN_N, Asking, dirty, sets_over, words_of
+from support import EDGES_OF_N, FULL, REFUSED_N, UNEVEN_N, Asking, dirty, sets_over, told, words_of
 
 
 class BytesOf(Asking):
@@ -36,6 +36,44 @@ class BytesOf(Asking):
     def test_names_of_the_arguments(self):
         self.assertEqual(list(inspect.signature(columns.bytes_of).parameters), ["n", "a"])
         self.assertEqual(columns.bytes_of(n=2, a=[2]), [1, 0, 255])
+
+
+class OfBytes(Asking):
+    def compare(self, given):
+        wanted = told(len(given), {row for row, byte in enumerate(given) if byte & 128})
+        self.check(wanted, "ofbytes", len(given), given)
+
+    def test_written_answers(self):
+        self.check([4, 0b1111000], "ofbytes", 7, [0, 1, 127, 128, 129, 254, 255])
+        self.check([0], "ofbytes", 0, [])
+        self.check([1, 0, 1], "ofbytes", 65, [127] * 64 + [128])
+        self.check([64, FULL, 0], "ofbytes", 65, [128] * 64 + [127])
+
+    def test_every_byte(self):
+        self.compare(list(range(256)))
+        for byte in range(256):
+            self.check([1, 1] if byte > 127 else [0, 0], "ofbytes", 1, [byte])
+
+    def test_n_at_its_edges(self):
+        for n in EDGES_OF_N + (5, 100, 200):
+            for byte in (0, 1, 127, 128, 129, 254, 255):
+                self.compare([byte] * n)
+            self.compare([row * 37 % 256 for row in range(n)])
+            self.compare([row * row % 256 for row in range(n)])
+
+    def test_back_and_forth(self):
+        for n in EDGES_OF_N:
+            for a in sets_over(n):
+                given = self.ask("bytes_of", n, words_of(n, a))[1:]
+                self.check(told(n, a), "ofbytes", n, given)
+
+    def test_n_refused(self):
+        for n in REFUSED_N:
+            self.check([-1], "ofbytes", n, [])
+
+    def test_names_of_the_arguments(self):
+        self.assertEqual(list(inspect.signature(columns.ofbytes).parameters), ["n", "given"])
+        self.assertEqual(columns.ofbytes(n=2, given=[0, 200]), [1, 2])
 
 
 if __name__ == "__main__":
