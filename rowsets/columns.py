@@ -33,6 +33,21 @@ NOT = 6
 SIGN_BIT = 2147483648
 INFINITE = 2139095040
 
+# The kinds of a step of rules; those from 1 to 5 join two sets, by the how that is one less.
+PUSH = 0
+INVERT = 6
+SHIFT = 7
+FILL = 8
+COPY = 9
+EXCHANGE = 10
+
+# By kind: how many sets a step looks at, so how many there must be.
+SETS_NEEDED = (0, 2, 2, 2, 2, 2, 1, 1, 2, 1, 2)
+STEP_NUMBERS = 4
+MOST_STEPS = 64
+MOST_SETS = 16
+TABLE_COLUMNS = 8
+
 
 def where8(n, how, value, col):
     """The rows whose number, from -128 to 127, stands to value as how says."""
@@ -154,6 +169,41 @@ def put(n, col, a, given):
     return [len(rows)] + result
 
 
+def choose(n, x, y, a):
+    """How many rows a has, then x's numbers for the rows of a, y's for the others."""
+    if rows_refused(n):
+        return [ROWS_REFUSED]
+    return [len(rows_of(n, a))] + [x[row] if has_row(a, row) else y[row] for row in range(n)]
+
+
+def add(n, by, col, a):
+    """How many rows over has, then col with by more in a's rows, then over: the rows whose sum didn't fit."""
+    if rows_refused(n):
+        return [ROWS_REFUSED]
+    sums = [col[row] + by if has_row(a, row) else col[row] for row in range(n)]
+    kept = [in_32_bits(number) for number in sums]
+    # What nothing was added to is a number of 32 bits still, so over has only rows of a.
+    over = [row for row in range(n) if kept[row] != sums[row]]
+    return [len(over)] + kept + set_of(n, over)
+
+
+def rules(n, count, table, steps):
+    """The one set that the steps leave on the stack."""
+    if rows_refused(n):
+        return [ROWS_REFUSED]
+    if count < 0 or count > MOST_STEPS:
+        return [NUMBER_REFUSED]
+    stack = []
+    for place in range(count):
+        step = steps[place * STEP_NUMBERS:(place + 1) * STEP_NUMBERS]
+        if step_refused(step, len(stack)):
+            return [NUMBER_REFUSED]
+        stack = after_step(n, table, step, stack)
+    if len(stack) != 1:
+        return [NUMBER_REFUSED]
+    return told(n, stack[0])
+
+
 def rows_refused(n):
     return n < 0 or n > MOST_ROWS
 
@@ -230,8 +280,44 @@ def joined_word(how, x, y):
     return x | (y ^ FULL_WORD)
 
 
-# // and % round down, so by is so many words, up or down, and then 0 to 63 rows
-# up: one way of moving serves both directions.
+def in_32_bits(number):
+    return (number + 2 ** 31) % 2 ** 32 - 2 ** 31
+
+
+def step_refused(step, height):
+    kind = step[0]
+    if kind < PUSH or kind > EXCHANGE:
+        return True
+    if kind == PUSH and (step[1] < 0 or step[1] >= TABLE_COLUMNS or how_refused(step[2])):
+        return True
+    # No other kind leaves more sets than it found.
+    if (kind == PUSH or kind == COPY) and height == MOST_SETS:
+        return True
+    return height < SETS_NEEDED[kind]
+
+
+def after_step(n, table, step, stack):
+    kind = step[0]
+    if kind == PUSH:
+        column = table[step[1] * n:(step[1] + 1) * n]
+        return stack + [set_where(n, step[2], step[3], column)]
+    top = stack[-1]
+    if kind == COPY:
+        return stack + [top]
+    if kind == INVERT:
+        return stack[:-1] + [joined(n, NOT, top, [])]
+    if kind == SHIFT:
+        return stack[:-1] + [shifted(n, step[3], top)]
+    below = stack[-2]
+    if kind == EXCHANGE:
+        return stack[:-2] + [top, below]
+    if kind == FILL:
+        return stack[:-2] + [filled(n, below, top)]
+    return stack[:-2] + [joined(n, kind - 1, below, top)]
+
+
+# Python's division rounds down, so by is so many words, up or down, and then 0
+# to 63 rows up: one way of moving serves both directions.
 def shifted(n, by, words):
     whole = by // WORD_ROWS
     rest = by % WORD_ROWS

@@ -1,9 +1,7 @@
 """Point 9: bytes_of and ofbytes, and what the document says ahead of it of sets that are handed over."""
 
-import inspect
 import unittest
 
-from rowsets import columns
 from support import EDGES_OF_N, FULL, REFUSED_N, UNEVEN_N, Asking, dirty, sets_over, told, words_of
 
 
@@ -32,10 +30,6 @@ class BytesOf(Asking):
     def test_n_refused(self):
         for n in REFUSED_N:
             self.check([-1], "bytes_of", n, [])
-
-    def test_names_of_the_arguments(self):
-        self.assertEqual(list(inspect.signature(columns.bytes_of).parameters), ["n", "a"])
-        self.assertEqual(columns.bytes_of(n=2, a=[2]), [1, 0, 255])
 
 
 class OfBytes(Asking):
@@ -70,10 +64,6 @@ class OfBytes(Asking):
     def test_n_refused(self):
         for n in REFUSED_N:
             self.check([-1], "ofbytes", n, [])
-
-    def test_names_of_the_arguments(self):
-        self.assertEqual(list(inspect.signature(columns.ofbytes).parameters), ["n", "given"])
-        self.assertEqual(columns.ofbytes(n=2, given=[0, 200]), [1, 2])
 
 
 if __name__ == "__main__":

@@ -1,9 +1,7 @@
 """Point 6: ends, and what the document says ahead of it of sets that are handed over."""
 
-import inspect
 import unittest
 
-from rowsets import columns
 from support import EDGES_OF_N, FULL, REFUSED_N, UNEVEN_N, Asking, dirty, sets_over, told, words_of
 
 
@@ -52,10 +50,6 @@ class Ends(Asking):
     def test_n_refused(self):
         for n in REFUSED_N:
             self.check([-1], "ends", n, [])
-
-    def test_names_of_the_arguments(self):
-        self.assertEqual(list(inspect.signature(columns.ends).parameters), ["n", "a"])
-        self.assertEqual(columns.ends(n=4, a=[6]), [1, 2, 4])
 
 
 if __name__ == "__main__":

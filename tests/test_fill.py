@@ -1,9 +1,7 @@
 """Point 5: fill, and what the document says ahead of it of sets that are handed over."""
 
-import inspect
 import unittest
 
-from rowsets import columns
 from support import EDGES_OF_N, FULL, REFUSED_N, UNEVEN_N, Asking, dirty, sets_over, told, words_of
 
 
@@ -86,10 +84,6 @@ class Fill(Asking):
     def test_n_refused(self):
         for n in REFUSED_N:
             self.check([-1], "fill", n, [], [])
-
-    def test_names_of_the_arguments(self):
-        self.assertEqual(list(inspect.signature(columns.fill).parameters), ["n", "a", "on"])
-        self.assertEqual(columns.fill(n=4, a=[2], on=[7]), [2, 6])
 
 
 if __name__ == "__main__":

@@ -1,9 +1,7 @@
 """Point 3: join, and what the document says ahead of it of sets that are handed over."""
 
-import inspect
 import unittest
 
-from rowsets import columns
 from support import EDGES_OF_N, FULL, HIGH, LOW, REFUSED_N, UNEVEN_N, Asking, dirty, sets_over, told, words_of
 
 REFUSED_HOW = (-1, 7, LOW, HIGH)
@@ -66,10 +64,6 @@ class Join(Asking):
             for n in EDGES_OF_N:
                 words = words_of(n, set(range(n)))
                 self.check([-2], "join", n, how, words, words)
-
-    def test_names_of_the_arguments(self):
-        self.assertEqual(list(inspect.signature(columns.join).parameters), ["n", "how", "a", "b"])
-        self.assertEqual(columns.join(n=4, how=4, a=[7], b=[1]), [2, 6])
 
 
 if __name__ == "__main__":

@@ -1,9 +1,7 @@
 """Point 8: nth, and what the document says ahead of it of sets that are handed over."""
 
-import inspect
 import unittest
 
-from rowsets import columns
 from support import EDGES_OF_N, HIGH, LOW, REFUSED_N, UNEVEN_N, Asking, dirty, sets_over, words_of
 
 REFUSED_K = (-1, -2, LOW, HIGH)
@@ -57,10 +55,6 @@ class Nth(Asking):
         for n in REFUSED_N:
             for k in (0, 1) + REFUSED_K:
                 self.check([-1], "nth", n, k, [])
-
-    def test_names_of_the_arguments(self):
-        self.assertEqual(list(inspect.signature(columns.nth).parameters), ["n", "k", "a"])
-        self.assertEqual(columns.nth(n=4, k=1, a=[9]), [3])
 
 
 if __name__ == "__main__":

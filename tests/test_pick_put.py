@@ -1,9 +1,7 @@
 """Points 10 and 11: pick and put, and what the document says ahead of them of sets that are handed over."""
 
-import inspect
 import unittest
 
-from rowsets import columns
 from support import (EDGES_OF_N, HIGH, LOW, REFUSED_N, UNEVEN_N, Asking, dirty, numbers_over, sets_over,
                      words_of)
 
@@ -37,10 +35,6 @@ class Pick(Asking):
     def test_n_refused(self):
         for n in REFUSED_N:
             self.check([-1], "pick", n, [], [])
-
-    def test_names_of_the_arguments(self):
-        self.assertEqual(list(inspect.signature(columns.pick).parameters), ["n", "col", "a"])
-        self.assertEqual(columns.pick(n=2, col=[5, 6], a=[2]), [1, 6])
 
 
 class Put(Asking):
@@ -93,10 +87,6 @@ class Put(Asking):
     def test_n_refused(self):
         for n in REFUSED_N:
             self.check([-1], "put", n, [], [], [])
-
-    def test_names_of_the_arguments(self):
-        self.assertEqual(list(inspect.signature(columns.put).parameters), ["n", "col", "a", "given"])
-        self.assertEqual(columns.put(n=2, col=[5, 6], a=[2], given=[8, 9]), [1, 5, 8])
 
 
 if __name__ == "__main__":

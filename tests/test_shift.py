@@ -1,9 +1,7 @@
 """Point 4: shift, and what the document says ahead of it of sets that are handed over."""
 
-import inspect
 import unittest
 
-from rowsets import columns
 from support import EDGES_OF_N, FULL, HIGH, LOW, REFUSED_N, UNEVEN_N, Asking, dirty, sets_over, told, words_of
 
 
@@ -59,10 +57,6 @@ class Shift(Asking):
         for n in REFUSED_N:
             for by in (0, 1, -1, 64, LOW, HIGH):
                 self.check([-1], "shift", n, by, [])
-
-    def test_names_of_the_arguments(self):
-        self.assertEqual(list(inspect.signature(columns.shift).parameters), ["n", "by", "a"])
-        self.assertEqual(columns.shift(n=4, by=1, a=[1]), [1, 2])
 
 
 if __name__ == "__main__":

@@ -1,9 +1,7 @@
 """Point 7: test, and what the document says ahead of it of sets that are handed over."""
 
-import inspect
 import unittest
 
-from rowsets import columns
 from support import EDGES_OF_N, FULL, REFUSED_N, UNEVEN_N, Asking, dirty, sets_over, words_of
 
 
@@ -63,10 +61,6 @@ class Test(Asking):
     def test_n_refused(self):
         for n in REFUSED_N:
             self.check([-1], "test", n, [], [])
-
-    def test_names_of_the_arguments(self):
-        self.assertEqual(list(inspect.signature(columns.test).parameters), ["n", "a", "b"])
-        self.assertEqual(columns.test(n=4, a=[3], b=[1]), [2])
 
 
 if __name__ == "__main__":

@@ -1,12 +1,8 @@
 """Point 1: where8, where16, where32 and where64, and what the document says ahead of it."""
 
-import contextlib
-import inspect
-import io
 import operator
 import unittest
 
-from rowsets import columns
 from support import EDGES_OF_N, FULL, HIGH, LOW, REFUSED_N, Asking, told
 
 HOWS = (operator.eq, operator.ne, operator.lt, operator.le, operator.gt, operator.ge)
@@ -134,19 +130,6 @@ class WhereTests:
             for how, holds in enumerate((False, True, above, above, not above, not above)):
                 wanted = [5, 31] if holds else [0, 0]
                 self.assertEqual(self.where(5, how, value, col), wanted, (how, value))
-
-    def test_nothing_is_printed(self):
-        out, err = io.StringIO(), io.StringIO()
-        with contextlib.redirect_stdout(out), contextlib.redirect_stderr(err):
-            self.where(70, 2, 1, self.spread(70))
-            self.where(-1, 2, 1, [])
-            self.where(1, 6, 1, [1])
-        self.assertEqual((out.getvalue(), err.getvalue()), ("", ""))
-
-    def test_names_of_the_arguments(self):
-        call = getattr(columns, self.name)
-        self.assertEqual(list(inspect.signature(call).parameters), ["n", "how", "value", "col"])
-        self.assertEqual(call(n=2, how=4, value=1, col=[1, 2]), [1, 2])
 
 
 class Where8(WhereTests, Asking):

@@ -1,11 +1,9 @@
 """Point 2: wherebits, and what the document says ahead of it."""
 
-import inspect
 import operator
 import struct
 import unittest
 
-from rowsets import columns
 from support import EDGES_OF_N, HIGH, LOW, REFUSED_N, Asking, told
 
 HOWS = (operator.eq, operator.ne, operator.lt, operator.le, operator.gt, operator.ge)
@@ -119,10 +117,6 @@ class WhereBits(Asking):
             for n in EDGES_OF_N:
                 for value in (0, 2143289344, 4294967295):
                     self.check([-2], "wherebits", n, how, value, [0] * n)
-
-    def test_names_of_the_arguments(self):
-        self.assertEqual(list(inspect.signature(columns.wherebits).parameters), ["n", "how", "value", "col"])
-        self.assertEqual(columns.wherebits(n=2, how=4, value=1, col=[1, 2]), [1, 2])
 
 
 if __name__ == "__main__":
